@@ -241,19 +241,25 @@ func TestNodesOkAsksForNoTree(t *testing.T) {
 	}
 }
 
-func TestNodesOkLeavesItsArgument(t *testing.T) {
-	room := make([]impl.Node, 0, 8)
-	nodes := append(room, threeNodes()...)
-	spare := nodes[len(nodes):cap(nodes)]
+// leavesNodes checks that a call changes neither the nodes that it is given nor the spare room behind them.
+func leavesNodes(t *testing.T, nodes []impl.Node, call func(nodes []impl.Node)) {
+	t.Helper()
+	given := append(make([]impl.Node, 0, len(nodes)+5), nodes...)
+	spare := given[len(given):cap(given)]
 	for i := range spare {
 		spare[i] = full()
 	}
-	if !impl.NodesOk(nodes) || !slices.Equal(nodes, threeNodes()) {
-		t.Errorf("nodes: %+v", nodes)
+	call(given)
+	if !slices.Equal(given, nodes) {
+		t.Errorf("the argument is changed: %+v", given)
 	}
 	for _, n := range spare {
 		if n != full() {
-			t.Errorf("spare room: %+v", spare)
+			t.Errorf("the spare room is changed: %+v", spare)
 		}
 	}
+}
+
+func TestNodesOkLeavesItsArgument(t *testing.T) {
+	leavesNodes(t, threeNodes(), func(nodes []impl.Node) { impl.NodesOk(nodes) })
 }
