@@ -241,23 +241,28 @@ func TestNodesOkAsksForNoTree(t *testing.T) {
 	}
 }
 
-// leavesNodes checks that a call changes neither the nodes that it is given nor the spare room behind them.
-func leavesNodes(t *testing.T, nodes []impl.Node, call func(nodes []impl.Node)) {
+// leaves checks that a call changes neither the list that it is given nor the spare room behind it, which is filled with mark.
+func leaves[T comparable](t *testing.T, list []T, mark T, call func(list []T)) {
 	t.Helper()
-	given := append(make([]impl.Node, 0, len(nodes)+5), nodes...)
+	given := append(make([]T, 0, len(list)+5), list...)
 	spare := given[len(given):cap(given)]
 	for i := range spare {
-		spare[i] = full()
+		spare[i] = mark
 	}
 	call(given)
-	if !slices.Equal(given, nodes) {
+	if !slices.Equal(given, list) {
 		t.Errorf("the argument is changed: %+v", given)
 	}
-	for _, n := range spare {
-		if n != full() {
+	for _, one := range spare {
+		if one != mark {
 			t.Errorf("the spare room is changed: %+v", spare)
 		}
 	}
+}
+
+func leavesNodes(t *testing.T, nodes []impl.Node, call func(nodes []impl.Node)) {
+	t.Helper()
+	leaves(t, nodes, full(), call)
 }
 
 func TestNodesOkLeavesItsArgument(t *testing.T) {
