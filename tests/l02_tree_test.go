@@ -200,9 +200,8 @@ func TestWhatNoWalkComesTo(t *testing.T) {
 	isTree(t, "all cut", nodes, nil, 0)
 }
 
-// The greatest number of nodes is 30: the root and 29 more.
-func TestDeepestAndBroadest(t *testing.T) {
-	var rising, falling, inward []int64
+// deepKeys is as many keys as there is room for, in three orders in which each is hung below the one before.
+func deepKeys() (rising, falling, inward []int64) {
 	for i := int64(0); i < 29; i++ {
 		rising = append(rising, 3*i)
 		falling = append(falling, 99-3*i)
@@ -211,6 +210,12 @@ func TestDeepestAndBroadest(t *testing.T) {
 			inward[i] = 99 - i/2
 		}
 	}
+	return rising, falling, inward
+}
+
+// The greatest number of nodes is 30: the root and 29 more.
+func TestDeepestAndBroadest(t *testing.T) {
+	rising, falling, inward := deepKeys()
 	isTree(t, "rising", hung(rising...), pairsOf(rising...), 29)
 	isTree(t, "falling", hung(falling...), pairsOf(falling...), 29)
 	isTree(t, "inward", hung(inward...), pairsOf(inward...), 29)
