@@ -1,7 +1,6 @@
 package tests
 
 import (
-	"math"
 	"math/rand"
 	"slices"
 	"testing"
@@ -9,93 +8,7 @@ import (
 	"loop.example/g00783/impl"
 )
 
-var (
-	get20 = impl.Call{Code: 1, Key: 20}
-	add20 = impl.Call{Code: 2, Key: 20, Value: 7}
-	cut20 = impl.Call{Code: 3, Key: 20}
-)
-
-// notOfFinding is each place that the chapter's table does not have, of the other chapters or of none.
-func notOfFinding() []int64 {
-	places := []int64{math.MinInt64, -2, -1, 27, 28, 1<<32 + 1, math.MaxInt64, 0}
-	for at := int64(5); at <= 26; at++ {
-		places = append(places, at)
-	}
-	return places
-}
-
-// wide is as many nodes and counts as there may be, each node that fullHand names among them, all tags and counts told apart.
-func wide() impl.Shared {
-	var keys []int64
-	for i := int64(0); i < 29; i++ {
-		keys = append(keys, (i*37+50)%100)
-	}
-	nodes := hung(keys...)
-	for i := range nodes {
-		nodes[i].LeftTag, nodes[i].RightTag = int64(100+i), int64(200+i)
-	}
-	return impl.Shared{Nodes: nodes, Counts: []int64{10, 21, 32, 43, 54, 65}}
-}
-
-func sharedOf(nodes []impl.Node, counts ...int64) impl.Shared {
-	return impl.Shared{Nodes: nodes, Counts: counts}
-}
-
-func cloned(s impl.Shared) impl.Shared {
-	return impl.Shared{Nodes: slices.Clone(s.Nodes), Counts: slices.Clone(s.Counts)}
-}
-
-func alikeShared(a, b impl.Shared) bool {
-	return slices.Equal(a.Nodes, b.Nodes) && slices.Equal(a.Counts, b.Counts)
-}
-
-// atWork is fullHand with this call.
-func atWork(at int64, c impl.Call) impl.Hand {
-	h := fullHand(at)
-	h.Call = c
-	return h
-}
-
-// handNodes is of every number of a node in a Hand.
-func handNodes() []handLimit {
-	return slices.DeleteFunc(handLimits(), func(l handLimit) bool { return l.most != 29 })
-}
-
-// checkStep checks what one step answers, and that it wrote nothing into what it was given.
-func checkStep(t *testing.T, name string, s impl.Shared, task int64, h impl.Hand, want impl.Shared, wantHand impl.Hand, wantIs bool) {
-	t.Helper()
-	given := cloned(s)
-	after, hand, is := impl.FindStep(s, task, h)
-	if is != wantIs || hand != wantHand || !alikeShared(after, want) {
-		t.Errorf("%s: task %d, %+v:\n%v %+v %+v, not\n%v %+v %+v", name, task, h, is, hand, after, wantIs, wantHand, want)
-	}
-	if !alikeShared(s, given) {
-		t.Errorf("%s: task %d, %+v: the argument is changed", name, task, h)
-	}
-}
-
-func checkRefused(t *testing.T, name string, s impl.Shared, task int64, h impl.Hand) {
-	t.Helper()
-	checkStep(t, name, s, task, h, impl.Shared{}, impl.Hand{}, false)
-}
-
-func step(t *testing.T, s impl.Shared, task int64, h impl.Hand) (impl.Shared, impl.Hand) {
-	t.Helper()
-	after, hand, is := impl.FindStep(s, task, h)
-	if !is {
-		t.Fatalf("task %d, %+v: refused", task, h)
-	}
-	return after, hand
-}
-
-func called(t *testing.T, c impl.Call) impl.Hand {
-	t.Helper()
-	h, code := impl.Called(impl.Resting(0, 0), c)
-	if code != impl.CdOk {
-		t.Fatalf("%+v: not called, %d", c, code)
-	}
-	return h
-}
+var finds = stepChapter{step: impl.FindStep, words: findByWords, places: []int64{1, 2, 3, 4}}
 
 // finding is while a hand is at one of this chapter's places.
 func finding(h impl.Hand) bool { return h.At >= 1 && h.At <= 4 }
@@ -115,20 +28,15 @@ func lookedAhead(t *testing.T, s impl.Shared, task int64, h impl.Hand, ahead fun
 			t.Fatalf("%+v: no end", h)
 		}
 		ahead(steps, &s)
-		s, h = step(t, s, task, h)
+		s, h = finds.done(t, s, task, h)
 	}
 	return s, h, steps
 }
 
 // findByWords does just what the document says.
 func findByWords(s impl.Shared, task int64, h impl.Hand) (impl.Shared, impl.Hand, bool) {
-	if !impl.NodesOk(s.Nodes) || !impl.CountsOk(s.Counts) || !handByWords(h) || task < 0 || task >= int64(len(s.Counts)) || !finding(h) {
+	if !stepIsRight(s, task, h) || !finding(h) {
 		return impl.Shared{}, impl.Hand{}, false
-	}
-	for _, l := range handNodes() {
-		if *l.field(&h) >= int64(len(s.Nodes)) {
-			return impl.Shared{}, impl.Hand{}, false
-		}
 	}
 	s = cloned(s)
 	if h.At == 1 || h.At == 4 {
@@ -213,11 +121,11 @@ func TestEnter(t *testing.T) {
 			want, hand := wide(), atWork(2, c)
 			want.Counts[task]++
 			hand.Prev, hand.Side, hand.Cur = 0, 1, 0
-			checkStep(t, "enter", wide(), task, atWork(1, c), want, hand, true)
+			finds.check(t, "enter", wide(), task, atWork(1, c), want, hand, true)
 			begun := called(t, c)
 			hand = begun
 			hand.At, hand.Side = 2, 1
-			checkStep(t, "enter from rest", wide(), task, begun, want, hand, true)
+			finds.check(t, "enter from rest", wide(), task, begun, want, hand, true)
 		}
 	}
 }
@@ -252,8 +160,8 @@ func TestDownToAKid(t *testing.T) {
 			want := h
 			want.At, want.Prev, want.Side, want.Cur = c.at, c.newPrev, c.newSide, c.cur
 			s := sharedOf(nodes, 7, 100000)
-			checkStep(t, "down", s, 0, h, s, want, true)
-			checkStep(t, "down at the greatest count", s, 1, h, s, want, true)
+			finds.check(t, "down", s, 0, h, s, want, true)
+			finds.check(t, "down at the greatest count", s, 1, h, s, want, true)
 		}
 	}
 }
@@ -277,8 +185,8 @@ func TestTagOfPrevAtSide(t *testing.T) {
 					want := h
 					want.At, want.Tag = 4, tag
 					s := sharedOf(nodes, 100000, 7)
-					checkStep(t, "tag", s, 0, h, s, want, true)
-					checkStep(t, "tag of another task", s, 1, h, s, want, true)
+					finds.check(t, "tag", s, 0, h, s, want, true)
+					finds.check(t, "tag of another task", s, 1, h, s, want, true)
 				}
 			}
 		}
@@ -301,7 +209,7 @@ func TestExit(t *testing.T) {
 				case c.Code == 1, c.Code == 2 && cur != 0, c.Code == 3 && cur == 0:
 					hand = impl.Hand{Seen: -1, Reply: 2}
 				}
-				checkStep(t, "exit", s, task, h, want, hand, true)
+				finds.check(t, "exit", s, task, h, want, hand, true)
 			}
 		}
 	}
@@ -313,9 +221,9 @@ func TestExitTellsEachValue(t *testing.T) {
 		nodes[2].Value = value
 		s, want := sharedOf(nodes, 1, 5), sharedOf(nodes, 1, 6)
 		h := impl.Hand{At: 4, Call: get20, Prev: 1, Cur: 2, Tag: 3, Seen: -1, Begin: 9}
-		checkStep(t, "a get", s, 1, h, want, impl.Hand{Seen: -1, Reply: 1, Out: value}, true)
+		finds.check(t, "a get", s, 1, h, want, impl.Hand{Seen: -1, Reply: 1, Out: value}, true)
 		h.Call = add20
-		checkStep(t, "an add", s, 1, h, want, impl.Hand{Seen: -1, Reply: 2}, true)
+		finds.check(t, "an add", s, 1, h, want, impl.Hand{Seen: -1, Reply: 2}, true)
 	}
 }
 
@@ -329,14 +237,14 @@ func TestCountsOfFinding(t *testing.T) {
 				for _, c := range []impl.Call{get20, add20, cut20} {
 					enter, exit := called(t, c), impl.Hand{At: 4, Call: c, Prev: 1, Cur: 2, Seen: -1}
 					if count == 100000 {
-						checkRefused(t, "enter at the greatest count", s, int64(task), enter)
-						checkRefused(t, "exit at the greatest count", s, int64(task), exit)
+						finds.refuses(t, "enter at the greatest count", s, int64(task), enter)
+						finds.refuses(t, "exit at the greatest count", s, int64(task), exit)
 						continue
 					}
 					begun := enter
 					begun.At, begun.Side = 2, 1
-					checkStep(t, "enter", s, int64(task), enter, want, begun, true)
-					checkStep(t, "exit", s, int64(task), exit, want, endByWords(s, exit), true)
+					finds.check(t, "enter", s, int64(task), enter, want, begun, true)
+					finds.check(t, "exit", s, int64(task), exit, want, endByWords(s, exit), true)
 				}
 			}
 		}
@@ -346,7 +254,7 @@ func TestCountsOfFinding(t *testing.T) {
 // The last walk that there is room for: it begins at MaxCount less 2 and ends at MaxCount.
 func TestTheLastWalk(t *testing.T) {
 	s := sharedOf(fiveKeys(), 4, 99998)
-	begun, h := step(t, s, 1, called(t, get20))
+	begun, h := finds.done(t, s, 1, called(t, get20))
 	if !slices.Equal(impl.Walking(begun.Counts), []int64{1}) {
 		t.Errorf("who walks: %v", begun.Counts)
 	}
@@ -354,7 +262,7 @@ func TestTheLastWalk(t *testing.T) {
 	if !slices.Equal(ended.Counts, []int64{4, 100000}) || h != impl.Resting(1, 200) {
 		t.Errorf("ended: %v %+v", ended.Counts, h)
 	}
-	checkRefused(t, "one more walk", ended, 1, called(t, get20))
+	finds.refuses(t, "one more walk", ended, 1, called(t, get20))
 	_, h, _ = looked(t, ended, 0, called(t, get20))
 	if h != impl.Resting(1, 200) {
 		t.Errorf("the other task: %+v", h)
@@ -603,9 +511,9 @@ func TestNobodyIsInTheWay(t *testing.T) {
 // In a circle there is always a step, and each is one touch: how many there are is not this chapter's business.
 func TestOneTouchInACircle(t *testing.T) {
 	nodes := []impl.Node{{Key: -1, Right: 1}, {Key: 50, Left: 1, Right: 2}, {Key: 40, Left: 1, Right: 2}}
-	s, h := step(t, sharedOf(nodes, 0), 0, called(t, get20))
+	s, h := finds.done(t, sharedOf(nodes, 0), 0, called(t, get20))
 	for range 100 {
-		after, hand := step(t, s, 0, h)
+		after, hand := finds.done(t, s, 0, h)
 		if hand.At != impl.AtDown || hand.Prev != 1 || hand.Cur != 1 || hand.Side != 0 || !alikeShared(after, s) {
 			t.Fatalf("%+v", hand)
 		}
@@ -628,7 +536,7 @@ func TestManyLookAtOnce(t *testing.T) {
 		// So many turns that each one has enough of them.
 		for range 2000 {
 			if task := chance.Intn(6); finding(hands[task]) {
-				s, hands[task] = step(t, s, int64(task), hands[task])
+				s, hands[task] = finds.done(t, s, int64(task), hands[task])
 			}
 		}
 		if !slices.Equal(hands, want) || !alikeShared(s, sharedOf(nodes, 2, 2, 2, 2, 2, 2)) {
@@ -637,168 +545,11 @@ func TestManyLookAtOnce(t *testing.T) {
 	}
 }
 
-func TestFindStepOfWhatIsNotRight(t *testing.T) {
-	for at := int64(1); at <= 4; at++ {
-		h := impl.Hand{At: at, Call: get20, Seen: -1}
-		for name, nodes := range nodesNotRight() {
-			checkRefused(t, name, sharedOf(nodes, 0, 4), 1, h)
-		}
-		for _, counts := range countsNotRight() {
-			for _, task := range []int64{0, 1, 5} {
-				checkRefused(t, "counts", sharedOf(fiveKeys(), counts...), task, h)
-			}
-		}
-		for tasks := 1; tasks <= 6; tasks++ {
-			for _, task := range noTaskOf(tasks) {
-				checkRefused(t, "no such task", sharedOf(fiveKeys(), make([]int64, tasks)...), task, h)
-			}
-		}
-		checkRefused(t, "zero", impl.Shared{}, 0, h)
-	}
-}
-
-// A link to no node is refused just where the step would go along it, and so is what would be told of such a node.
-func TestFindStepAlongALinkToNoNode(t *testing.T) {
-	for _, link := range []int64{math.MinInt64, -1, 7, 30, math.MaxInt64} {
-		for prev := range int64(7) {
-			for side := range int64(2) {
-				nodes := fiveKeys()
-				nodes[prev] = impl.WithKid(nodes[prev], side, link)
-				for at := int64(1); at <= 4; at++ {
-					for _, c := range []impl.Call{get20, add20, cut20} {
-						checkRefused(t, "link", sharedOf(nodes, 3), 0, impl.Hand{At: at, Call: c, Prev: prev, Cur: prev, Side: side, Seen: -1})
-					}
-				}
-			}
-		}
-	}
-}
-
-// What is not right in a hand is refused where it is, and, if that is a place of some chapter, at each place of this one.
-func TestFindStepOfAHandThatIsNotRight(t *testing.T) {
-	for _, h := range wrongHands() {
-		checkRefused(t, "hand", wide(), 1, h)
-		if h.At < 0 || h.At > 26 {
-			continue
-		}
-		for h.At = 1; finding(h); h.At++ {
-			checkRefused(t, "hand", wide(), 1, h)
-		}
-	}
-}
-
-func TestFindStepOfOtherPlaces(t *testing.T) {
-	for _, at := range notOfFinding() {
-		for _, c := range rightCalls() {
-			checkRefused(t, "place", wide(), 2, atWork(at, c))
-			checkRefused(t, "place", sharedOf(impl.Roots(), 0), 0, impl.Hand{At: at, Call: c, Seen: -1})
-		}
-		checkRefused(t, "place without a call", wide(), 2, impl.Hand{At: at, Seen: -1})
-	}
-}
-
-// Each number of a node by itself, though the step does not need it: as many as there are is one too many.
-func TestANumberOfANodeThatIsNotThere(t *testing.T) {
-	for _, count := range []int64{1, 2, 7, 29, 30} {
-		s := sharedOf(manyNodes(int(count)), 4, 6)
-		for at := int64(1); at <= 4; at++ {
-			for _, c := range []impl.Call{get20, add20, cut20} {
-				for _, l := range handNodes() {
-					for _, number := range []int64{0, 1, count - 1, count, count + 1, 29, 30, -1, math.MinInt64, math.MaxInt64, 1 << 32} {
-						h := impl.Hand{At: at, Call: c, Seen: -1}
-						*l.field(&h) = number
-						if number < 0 || number >= count {
-							checkRefused(t, l.name, s, 1, h)
-							continue
-						}
-						want, hand, is := findByWords(s, 1, h)
-						if !is {
-							t.Fatalf("%s %d of %d is refused by the words", l.name, number, count)
-						}
-						checkStep(t, l.name, s, 1, h, want, hand, true)
-					}
-				}
-			}
-		}
-	}
-}
-
-func TestEachNumberAtItsLimits(t *testing.T) {
-	for at := int64(1); at <= 4; at++ {
-		for _, l := range handLimits()[1:] {
-			for _, number := range l.around() {
-				h := fullHand(at)
-				*l.field(&h) = number
-				want, hand, is := findByWords(wide(), 3, h)
-				if is != l.has(number) {
-					t.Fatalf("%s %d: %v by the words", l.name, number, is)
-				}
-				checkStep(t, l.name, wide(), 3, h, want, hand, is)
-			}
-		}
-	}
-}
-
-// chanceNodes is right, but hardly ever a tree.
-func chanceNodes(chance *rand.Rand) []impl.Node {
-	nodes := manyNodes(1 + chance.Intn(10))
-	count := int64(len(nodes))
-	for i := range nodes {
-		n := impl.Node{Key: chance.Int63n(6), Value: chance.Int63n(1000), Left: chance.Int63n(count), Right: chance.Int63n(count), Owner: chance.Int63n(7), Gone: chance.Intn(2) == 0, LeftTag: chance.Int63n(10001), RightTag: chance.Int63n(10001)}
-		if i == 0 {
-			n.Key, n.Value, n.Left, n.Gone = -1, 0, 0, false
-		}
-		nodes[i] = n
-	}
-	return nodes
-}
-
-func chanceHand(chance *rand.Rand, nodes int64) impl.Hand {
-	h := impl.Hand{Call: impl.Call{Code: 1 + chance.Int63n(3), Key: chance.Int63n(6)}, Again: chance.Intn(2) == 0}
-	for _, l := range handLimits() {
-		most := l.most
-		if most == 29 {
-			most = nodes - 1
-		}
-		*l.field(&h) = l.least + chance.Int63n(most-l.least+1)
-		if chance.Intn(80) == 0 {
-			around := append(l.around(), nodes)
-			*l.field(&h) = around[chance.Intn(len(around))]
-		}
-	}
-	if chance.Intn(20) != 0 {
-		h.At = 1 + chance.Int63n(4)
-	}
-	return h
-}
+func TestFindStepAsTheOthers(t *testing.T) { finds.checkCommon(t) }
 
 func TestFindStepByChance(t *testing.T) {
-	chance := rand.New(rand.NewSource(70))
-	done := 0
-	for range 20000 {
-		s := sharedOf(chanceNodes(chance), make([]int64, 1+chance.Intn(6))...)
-		for task := range s.Counts {
-			s.Counts[task] = chance.Int63n(100001)
-			if chance.Intn(10) == 0 {
-				s.Counts[task] = 99998 + chance.Int63n(4)
-			}
-		}
-		task := chance.Int63n(int64(len(s.Counts)))
-		if chance.Intn(20) == 0 {
-			task = chance.Int63n(9) - 1
-		}
-		h := chanceHand(chance, int64(len(s.Nodes)))
-		want, hand, is := findByWords(s, task, h)
-		checkStep(t, "by chance", s, task, h, want, hand, is)
-		if is {
-			done++
-			if !impl.SharedOk(want) || !impl.HandOk(hand) {
-				t.Errorf("not right then: %+v %+v", want, hand)
-			}
-		}
-	}
-	if done < 8000 || done > 18000 {
-		t.Errorf("%d of 20000 are done: too few of one kind", done)
+	if waited := finds.checkByChance(t, 70); waited != 0 {
+		t.Errorf("who looks waits %d times", waited)
 	}
 }
 
@@ -806,38 +557,7 @@ func TestFindStepByChance(t *testing.T) {
 func TestFindStepIsNewMemory(t *testing.T) {
 	for at := int64(1); at <= 4; at++ {
 		for _, c := range []impl.Call{get20, add20, cut20} {
-			s := wide()
-			first, _, _ := impl.FindStep(s, 3, atWork(at, c))
-			want := cloned(first)
-			second, _, _ := impl.FindStep(s, 3, atWork(at, c))
-			for i := range second.Nodes {
-				second.Nodes[i] = full()
-			}
-			for i := range second.Counts {
-				second.Counts[i] = 77
-			}
-			if len(first.Nodes) != 30 || len(first.Counts) != 6 || !alikeShared(first, want) || !alikeShared(s, wide()) {
-				t.Errorf("at %d, %+v: shares memory", at, c)
-			}
+			finds.checkNewMemory(t, wide(), 3, atWork(at, c))
 		}
-	}
-}
-
-func TestFindingLeavesItsArgument(t *testing.T) {
-	for _, s := range []impl.Shared{{}, wide(), sharedOf(fiveKeys(), 0, 100000), sharedOf(impl.Roots(), 99999), sharedOf(manyNodes(31), 1), sharedOf(fiveKeys(), 1, 2, 3, 4, 5, 6, 7)} {
-		leavesNodes(t, s.Nodes, func(nodes []impl.Node) {
-			leaves(t, s.Counts, 77, func(counts []int64) {
-				given := impl.Shared{Nodes: nodes, Counts: counts}
-				impl.SharedOk(given)
-				for at := int64(-1); at <= 6; at++ {
-					for _, c := range []impl.Call{get20, add20, cut20} {
-						for _, task := range []int64{-1, 0, 1, 5, 6} {
-							impl.FindStep(given, task, atWork(at, c))
-							impl.FindStep(given, task, impl.Hand{At: at, Call: c, Seen: -1})
-						}
-					}
-				}
-			})
-		})
 	}
 }
