@@ -71,36 +71,12 @@ func addByWords(s impl.Shared, task int64, h impl.Hand) (impl.Shared, impl.Hand,
 	return s, h, true
 }
 
-func addsAndCuts() []impl.Call {
-	return slices.DeleteFunc(rightCalls(), func(c impl.Call) bool { return c.Code == 1 })
-}
-
 func onlyAdds() []impl.Call {
 	return slices.DeleteFunc(rightCalls(), func(c impl.Call) bool { return c.Code != 2 })
 }
 
-// Each node by each task; that all others are held is no matter.
-func TestLockOfAFreePrev(t *testing.T) {
-	for prev := range int64(30) {
-		for task := range int64(6) {
-			for _, others := range []int64{0, task + 1, 6 - task} {
-				s := wide()
-				for i := range s.Nodes {
-					s.Nodes[i].Owner = others
-				}
-				s.Nodes[prev].Owner = 0
-				want := cloned(s)
-				want.Nodes[prev].Owner = task + 1
-				for _, c := range addsAndCuts() {
-					h := atWork(5, c)
-					h.Prev = prev
-					hand := h
-					hand.At = map[int64]int64{2: 6, 3: 9}[c.Code]
-					adds.check(t, "lock", s, task, h, want, hand, true)
-				}
-			}
-		}
-	}
+func TestLockOfPrev(t *testing.T) {
+	adds.checkLock(t, lock{at: 5, node: func(h *impl.Hand) *int64 { return &h.Prev }, behind: map[int64]int64{2: 6, 3: 9}})
 }
 
 // A lock asks for nothing but an Owner: not whether the node is Gone, what hangs there, or what tag.
@@ -113,41 +89,6 @@ func TestLockAsksForAnOwnerAlone(t *testing.T) {
 			hand := h
 			hand.At = 6
 			adds.check(t, "a node that is gone", sharedOf(nodes, 0, 100000), 1, h, sharedOf(want, 0, 100000), hand, true)
-		}
-	}
-}
-
-// An Owner is in the way whoever he is: another task, the task itself, or one that has no Count.
-func TestLockWaits(t *testing.T) {
-	for prev := range int64(7) {
-		for owner := int64(1); owner <= 6; owner++ {
-			s := sharedOf(withOwner(held(), prev, owner), 2, 3, 4, 5)
-			for task := range int64(4) {
-				for _, c := range []impl.Call{add20, cut20} {
-					adds.waits(t, "from rest", s, task, impl.Hand{At: 5, Call: c, Prev: prev, Seen: -1})
-					h := impl.Hand{At: 5, Call: c, Prev: prev, Cur: 1, Side: 1, Tag: 13, Up: 2, Next: 3, New: 4, Index: 6, Seen: 17, Again: true, Begin: 18, Reply: 2, Out: 19}
-					adds.waits(t, "a full hand", s, task, h)
-				}
-			}
-		}
-	}
-}
-
-func TestLockWaitsTillItIsLetGo(t *testing.T) {
-	for _, c := range []impl.Call{add20, cut20} {
-		h := impl.Hand{At: 5, Call: c, Prev: 2, Side: 1, Seen: -1}
-		s, _ := adds.done(t, sharedOf(fiveKeys(), 0, 0, 0), 0, h)
-		for range 3 {
-			adds.waits(t, "held by another", s, 1, h)
-			adds.waits(t, "held by itself", s, 0, h)
-		}
-		nodes, is := impl.Unlocked(s.Nodes, 2, 0)
-		if !is {
-			t.Fatal("it was not held")
-		}
-		s, hand := adds.done(t, sharedOf(nodes, 0, 0, 0), 1, h)
-		if hand.At != map[int64]int64{2: 6, 3: 9}[c.Code] || !slices.Equal(impl.HeldBy(s.Nodes, 1), []int64{2}) || len(impl.HeldBy(s.Nodes, 0)) != 0 {
-			t.Errorf("%+v: %+v", hand, s)
 		}
 	}
 }
@@ -197,14 +138,6 @@ func aCheck(prev, side, tag int64) (impl.Shared, impl.Hand) {
 	return sharedOf(nodes, 0, 0), impl.Hand{At: 6, Call: add20, Prev: prev, Cur: 5, Side: side, Tag: tag, Up: 4, Next: 3, New: 2, Index: 6, Seen: 17, Begin: 18, Reply: 2, Out: 19}
 }
 
-// checkedAgain checks that all is as it was, but that the call begins anew.
-func checkedAgain(t *testing.T, name string, s impl.Shared, h impl.Hand) {
-	t.Helper()
-	hand := h
-	hand.At, hand.Again = 26, true
-	adds.check(t, name, s, 1, h, s, hand, true)
-}
-
 // eachCheck goes through either side of each node, and tags at their limits and between.
 func eachCheck(do func(s impl.Shared, h impl.Hand)) {
 	for prev := range int64(7) {
@@ -235,7 +168,7 @@ func TestCheckOfAPrevThatIsGone(t *testing.T) {
 	eachCheck(func(s impl.Shared, h impl.Hand) {
 		if h.Prev != 0 {
 			s.Nodes[h.Prev].Gone = true
-			checkedAgain(t, "gone", s, h)
+			adds.beginsAnew(t, "gone", s, h)
 		}
 	})
 }
@@ -247,7 +180,7 @@ func TestCheckOfASideThatIsNotFree(t *testing.T) {
 		}
 		for kid := int64(1); kid < 7; kid++ {
 			s.Nodes[h.Prev] = impl.WithKid(s.Nodes[h.Prev], h.Side, kid)
-			checkedAgain(t, "a kid", s, h)
+			adds.beginsAnew(t, "a kid", s, h)
 		}
 	})
 }
@@ -258,7 +191,7 @@ func TestCheckOfAnotherTag(t *testing.T) {
 		own := h.Tag
 		for _, tag := range []int64{own - 1, own + 1, own + 2, 0, 77, 5000, 10000, own ^ 1<<8} {
 			if h.Tag = tag; tag != own && tag >= 0 && tag <= 10000 {
-				checkedAgain(t, "another tag", s, h)
+				adds.beginsAnew(t, "another tag", s, h)
 			}
 		}
 	})
@@ -268,9 +201,9 @@ func TestCheckOfAnotherTag(t *testing.T) {
 func TestCheckFailsAgain(t *testing.T) {
 	s, h := aCheck(2, 1, 5)
 	s.Nodes[2].RightTag, s.Nodes[2].Gone, s.Nodes[2].Right = 6, true, 3
-	checkedAgain(t, "all at once", s, h)
+	adds.beginsAnew(t, "all at once", s, h)
 	h.Again = true
-	checkedAgain(t, "all at once, anew", s, h)
+	adds.beginsAnew(t, "all at once, anew", s, h)
 }
 
 // The new node is the last one, with the Key and the Value and nothing else, and hangs nowhere yet.
@@ -393,19 +326,6 @@ func adding(t *testing.T, s impl.Shared, task int64, h impl.Hand, behind func(s 
 	return s, h, steps
 }
 
-// letGo stands for what is done at AtFree, which is not of this chapter.
-func letGo(t *testing.T, s impl.Shared, task int64) impl.Shared {
-	t.Helper()
-	for _, at := range impl.HeldBy(s.Nodes, task) {
-		nodes, is := impl.Unlocked(s.Nodes, at, task)
-		if !is {
-			t.Fatalf("%d: not let go", at)
-		}
-		s.Nodes = nodes
-	}
-	return s
-}
-
 // checkAddedAlone checks an add of one who is alone, all the way.
 func checkAddedAlone(t *testing.T, nodes []impl.Node, c impl.Call, task int64) impl.Shared {
 	t.Helper()
@@ -456,15 +376,7 @@ func checkNewLeaf(t *testing.T, before, after []impl.Node, c impl.Call) {
 }
 
 func TestWhoAddsAloneHasItInTheTreeThen(t *testing.T) {
-	trees := someTrees()
-	for _, nodes := range slices.Clone(trees) {
-		nodes = slices.Clone(nodes)
-		for i := range nodes {
-			nodes[i].LeftTag, nodes[i].RightTag = int64(10000-i), int64(i)
-		}
-		trees = append(trees, nodes)
-	}
-	for _, nodes := range trees {
+	for _, nodes := range taggedTrees() {
 		for key := int64(0); key <= 99; key++ {
 			for task := range int64(3) {
 				checkAddedAlone(t, nodes, impl.Call{Code: 2, Key: key, Value: (key*37 + task) % 1000}, task)
@@ -494,16 +406,6 @@ func TestAddingTillThereIsNoRoom(t *testing.T) {
 			t.Errorf("%v, not %v", impl.PairsIn(nodes), pairs)
 		}
 	}
-}
-
-// atLock is a hand of fiveKeys whose add has found its place.
-func atLock(t *testing.T, s impl.Shared, task int64, c impl.Call) (impl.Shared, impl.Hand) {
-	t.Helper()
-	s, h, _ := looked(t, s, task, called(t, c))
-	if h.At != 5 {
-		t.Fatalf("not at the lock: %+v", h)
-	}
-	return s, h
 }
 
 // Two have found the same place: the second one waits, and begins anew then, for the place is taken.
@@ -564,46 +466,13 @@ func TestThePlaceIsGone(t *testing.T) {
 	}
 }
 
-// An adder is one of those who add at once, with what is still to be asked.
-type adder struct {
-	hand  impl.Hand
-	calls []impl.Call
-}
-
-// turn is one step of an adder, with what stands for AtFree; it tells what it rested with, if it came to rest, or 0.
-func (a *adder) turn(t *testing.T, s impl.Shared, task int64) (impl.Shared, impl.Call, int64) {
-	t.Helper()
-	if a.hand.At == 0 {
-		a.hand, a.calls = called(t, a.calls[0]), a.calls[1:]
-	}
-	call := a.hand.Call
-	switch {
-	case a.hand.At == 26:
-		s = letGo(t, s, task)
-		if a.hand.Again {
-			a.hand = called(t, call)
-			return s, call, 0
-		}
-		a.hand = impl.Resting(a.hand.Reply, 0)
-	case finding(a.hand):
-		s, a.hand = finds.done(t, s, task, a.hand)
-	default:
-		// Where it waits, all stays as it is.
-		s, a.hand, _ = impl.AddStep(s, task, a.hand)
-	}
-	if a.hand.At == 0 {
-		return s, call, a.hand.Reply
-	}
-	return s, call, 0
-}
-
 // By turns of whoever comes: a key is added by the first one, and nobody's key is lost; where there is no room, it is told so.
 func TestManyAddAtOnce(t *testing.T) {
 	chance := rand.New(rand.NewSource(81))
 	agains := 0
 	for _, keys := range []int{1, 2, 5, 12, 29, 60} {
 		for range 60 {
-			adders := make([]adder, 6)
+			adders := make([]worker, 6)
 			for i := range adders {
 				for range 8 {
 					adders[i].calls = append(adders[i].calls, impl.Call{Code: 2, Key: chance.Int63n(int64(keys)) * 5 % 99, Value: chance.Int63n(1000)})
@@ -617,21 +486,22 @@ func TestManyAddAtOnce(t *testing.T) {
 	}
 }
 
-func checkManyAdd(t *testing.T, chance *rand.Rand, adders []adder) (agains int) {
+func checkManyAdd(t *testing.T, chance *rand.Rand, adders []worker) (agains int) {
 	t.Helper()
 	s := sharedOf(impl.Roots(), 0, 0, 0, 0, 0, 0)
 	added := map[int64]int64{}
-	for turns := 0; slices.ContainsFunc(adders, func(a adder) bool { return a.hand.At != 0 || len(a.calls) > 0 }); turns++ {
+	for turns := 0; slices.ContainsFunc(adders, worker.hasWork); turns++ {
 		task := chance.Intn(len(adders))
 		a := &adders[task]
 		if turns > 20000 {
 			t.Fatalf("no end: %+v", adders)
 		}
-		if a.hand.At == 0 && len(a.calls) == 0 {
+		if !a.hasWork() {
 			continue
 		}
-		after, call, reply := a.turn(t, s, int64(task))
+		after, before, reply := a.turn(t, s, int64(task))
 		s = after
+		call := before.Call
 		_, there := added[call.Key]
 		if a.hand.At == 26 && a.hand.Again {
 			agains++
@@ -672,26 +542,8 @@ func TestAddStepByChance(t *testing.T) {
 	}
 }
 
-// What is not right goes ahead of waiting.
 func TestARefusalGoesAheadOfWaiting(t *testing.T) {
-	s := sharedOf(held(0, 0, 1), 0, 0)
-	right := impl.Hand{At: 5, Call: add20, Prev: 2, Seen: -1}
-	adds.waits(t, "right", s, 1, right)
-	for _, task := range noTaskOf(2) {
-		adds.refuses(t, "no such task", s, task, right)
-	}
-	for _, l := range handLimits() {
-		for _, number := range append(l.around(), 7) {
-			if h := right; !l.has(number) || l.most == 29 && number == 7 {
-				*l.field(&h) = number
-				adds.refuses(t, l.name, s, 1, h)
-			}
-		}
-	}
-	s.Counts[0] = 100001
-	adds.refuses(t, "counts", s, 1, right)
-	s.Counts[0], s.Nodes[6].Owner = 0, 7
-	adds.refuses(t, "nodes", s, 1, right)
+	adds.refusesAheadOfWaiting(t, sharedOf(held(0, 0, 1), 0, 0), impl.Hand{At: 5, Call: add20, Prev: 2, Seen: -1})
 }
 
 // A step that does nothing to a list, and one that waits, answer a new one all the same.

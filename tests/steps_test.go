@@ -75,6 +75,91 @@ func called(t *testing.T, c impl.Call) impl.Hand {
 	return h
 }
 
+// taggedTrees is someTrees as they are, and once more with a tag of its own at each side, some of them at the limit or next to it.
+func taggedTrees() [][]impl.Node {
+	trees := someTrees()
+	for _, nodes := range slices.Clone(trees) {
+		nodes = slices.Clone(nodes)
+		for i := range nodes {
+			nodes[i].LeftTag, nodes[i].RightTag = int64(10000-i), int64(i)
+		}
+		trees = append(trees, nodes)
+	}
+	return trees
+}
+
+// atLock is a hand whose add or cut has found its place.
+func atLock(t *testing.T, s impl.Shared, task int64, c impl.Call) (impl.Shared, impl.Hand) {
+	t.Helper()
+	s, h, _ := looked(t, s, task, called(t, c))
+	if h.At != 5 {
+		t.Fatalf("not at the lock: %+v", h)
+	}
+	return s, h
+}
+
+// letGo stands for what is done at AtFree, which is not built yet.
+func letGo(t *testing.T, s impl.Shared, task int64) impl.Shared {
+	t.Helper()
+	for _, at := range impl.HeldBy(s.Nodes, task) {
+		nodes, is := impl.Unlocked(s.Nodes, at, task)
+		if !is {
+			t.Fatalf("%d: not let go", at)
+		}
+		s.Nodes = nodes
+	}
+	return s
+}
+
+// A worker is one of those who are at work at once, with what is still to be asked.
+type worker struct {
+	hand  impl.Hand
+	calls []impl.Call
+}
+
+func (w worker) hasWork() bool { return w.hand.At != 0 || len(w.calls) > 0 }
+
+// turn is one step of a worker, with what stands for AtFree; it tells the hand ahead of it, and what it rested with, if it came to rest, or 0.
+func (w *worker) turn(t *testing.T, s impl.Shared, task int64) (impl.Shared, impl.Hand, int64) {
+	t.Helper()
+	if w.hand.At == 0 {
+		w.hand, w.calls = called(t, w.calls[0]), w.calls[1:]
+	}
+	before := w.hand
+	switch {
+	case before.At == 26 && before.Again:
+		s, w.hand = letGo(t, s, task), called(t, before.Call)
+	case before.At == 26:
+		s, w.hand = letGo(t, s, task), impl.Resting(before.Reply, 0)
+	case before.At == 14:
+		// How the next greater one moves up is not built yet: such a cut is given up.
+		s, w.hand = letGo(t, s, task), impl.Resting(0, 0)
+	default:
+		s, w.hand = doneOrWaited(t, s, task, before)
+	}
+	if w.hand.At == 0 {
+		return s, before, w.hand.Reply
+	}
+	return s, before, 0
+}
+
+// doneOrWaited is a step of whatever chapter has the place, which must not be refused. Where it waits, all stays as it is.
+func doneOrWaited(t *testing.T, s impl.Shared, task int64, h impl.Hand) (impl.Shared, impl.Hand) {
+	t.Helper()
+	step := impl.CutStep
+	switch {
+	case h.At <= 4:
+		step = impl.FindStep
+	case h.At <= 8:
+		step = impl.AddStep
+	}
+	after, hand, is := step(s, task, h)
+	if !is && hand != h {
+		t.Fatalf("task %d, %+v: refused", task, h)
+	}
+	return after, hand
+}
+
 // stepIsRight asks, by the document's words, what every step wants of what it is given, but for the place and the call.
 func stepIsRight(s impl.Shared, task int64, h impl.Hand) bool {
 	if !impl.NodesOk(s.Nodes) || !impl.CountsOk(s.Counts) || !handByWords(h) || task < 0 || task >= int64(len(s.Counts)) {
@@ -111,6 +196,14 @@ func (c stepChapter) waits(t *testing.T, name string, s impl.Shared, task int64,
 	c.check(t, name, s, task, h, s, h, false)
 }
 
+// beginsAnew checks that all is as it was, but that the call begins anew.
+func (c stepChapter) beginsAnew(t *testing.T, name string, s impl.Shared, h impl.Hand) {
+	t.Helper()
+	hand := h
+	hand.At, hand.Again = 26, true
+	c.check(t, name, s, 1, h, s, hand, true)
+}
+
 // done is what is there behind one step, which must not be refused and must not wait.
 func (c stepChapter) done(t *testing.T, s impl.Shared, task int64, h impl.Hand) (impl.Shared, impl.Hand) {
 	t.Helper()
@@ -126,6 +219,84 @@ func (c stepChapter) asWords(t *testing.T, name string, s impl.Shared, task int6
 	t.Helper()
 	want, hand, is := c.words(s, task, h)
 	c.check(t, name, s, task, h, want, hand, is)
+}
+
+// A lock is a place where one node of the hand is Locked. first is the first node that may be it; behind tells of each code that is taken there where the hand is then.
+type lock struct {
+	at, first int64
+	node      func(h *impl.Hand) *int64
+	behind    map[int64]int64
+}
+
+func (c stepChapter) checkLock(t *testing.T, l lock) {
+	t.Run("free", func(t *testing.T) { c.locksWhatIsFree(t, l) })
+	t.Run("held", func(t *testing.T) { c.waitsForAnOwner(t, l) })
+	t.Run("let go", func(t *testing.T) { c.locksWhatIsLetGo(t, l) })
+}
+
+// Each node by each task; that all others are held is no matter.
+func (c stepChapter) locksWhatIsFree(t *testing.T, l lock) {
+	for node := l.first; node < 30; node++ {
+		for task := range int64(6) {
+			for _, others := range []int64{0, task + 1, 6 - task} {
+				s := wide()
+				for i := range s.Nodes {
+					s.Nodes[i].Owner = others
+				}
+				s.Nodes[node].Owner = 0
+				want := cloned(s)
+				want.Nodes[node].Owner = task + 1
+				for _, call := range rightCalls() {
+					if l.behind[call.Code] == 0 {
+						continue
+					}
+					h := atWork(l.at, call)
+					*l.node(&h) = node
+					hand := h
+					hand.At = l.behind[call.Code]
+					c.check(t, "lock", s, task, h, want, hand, true)
+				}
+			}
+		}
+	}
+}
+
+// An Owner is in the way whoever he is: another task, the task itself, or one that has no Count; and whether the node is Prev, too, or not.
+func (c stepChapter) waitsForAnOwner(t *testing.T, l lock) {
+	for node := l.first; node < 7; node++ {
+		for owner := int64(1); owner <= 6; owner++ {
+			s := sharedOf(withOwner(held(), node, owner), 2, 3, 4, 5)
+			for code := range l.behind {
+				call := map[int64]impl.Call{2: add20, 3: cut20}[code]
+				for prev := range int64(7) {
+					low := impl.Hand{At: l.at, Call: call, Prev: prev, Seen: -1}
+					high := impl.Hand{At: l.at, Call: call, Prev: prev, Cur: 1, Side: 1, Tag: 13, Up: 2, Next: 3, New: 4, Index: 6, Seen: 17, Again: true, Begin: 18, Reply: 2, Out: 19}
+					for _, h := range []impl.Hand{low, high} {
+						*l.node(&h) = node
+						for task := range int64(4) {
+							c.waits(t, "held", s, task, h)
+						}
+					}
+				}
+			}
+		}
+	}
+}
+
+func (c stepChapter) locksWhatIsLetGo(t *testing.T, l lock) {
+	for code, place := range l.behind {
+		h := impl.Hand{At: l.at, Call: map[int64]impl.Call{2: add20, 3: cut20}[code], Prev: 1, Side: 1, Seen: -1}
+		*l.node(&h) = 2
+		s, _ := c.done(t, sharedOf(fiveKeys(), 0, 0, 0), 0, h)
+		for range 3 {
+			c.waits(t, "held by another", s, 1, h)
+			c.waits(t, "held by itself", s, 0, h)
+		}
+		s, hand := c.done(t, letGo(t, s, 0), 1, h)
+		if hand.At != place || !slices.Equal(impl.HeldBy(s.Nodes, 1), []int64{2}) || len(impl.HeldBy(s.Nodes, 0)) != 0 {
+			t.Errorf("%+v: %+v", hand, s)
+		}
+	}
 }
 
 // taken is hands at each place with each call that is taken there, with each number of a node 0, and with none.
@@ -180,6 +351,32 @@ func (c stepChapter) refusesWhatIsNotRight(t *testing.T) {
 		}
 		c.refuses(t, "zero", impl.Shared{}, 0, h)
 	}
+}
+
+// refusesAheadOfWaiting checks that what is not right goes ahead of waiting, with seven nodes and what one of two tasks has to wait with there.
+func (c stepChapter) refusesAheadOfWaiting(t *testing.T, s impl.Shared, waiting impl.Hand) {
+	t.Helper()
+	c.waits(t, "right", s, 1, waiting)
+	for _, task := range noTaskOf(2) {
+		c.refuses(t, "no such task", s, task, waiting)
+	}
+	for _, l := range handLimits() {
+		for _, number := range append(l.around(), 7) {
+			if h := waiting; !l.has(number) || l.most == 29 && number == 7 {
+				*l.field(&h) = number
+				c.refuses(t, l.name, s, 1, h)
+			}
+		}
+	}
+	for _, call := range append(wrongCalls(), get20) {
+		h := waiting
+		h.Call = call
+		c.refuses(t, "call", s, 1, h)
+	}
+	counts, nodes := cloned(s), cloned(s)
+	counts.Counts[0], nodes.Nodes[6].Owner = 100001, 7
+	c.refuses(t, "counts", counts, 1, waiting)
+	c.refuses(t, "nodes", nodes, 1, waiting)
 }
 
 // A link to no node is refused just where the step would go along it or hang another one there, and so is what would be told of such a node.
