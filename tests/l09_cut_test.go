@@ -1,7 +1,6 @@
 package tests
 
 import (
-	"math"
 	"math/rand"
 	"slices"
 	"testing"
@@ -410,25 +409,8 @@ func TestACurOfNoneIsRefused(t *testing.T) {
 	}
 }
 
-// Each number of a node by itself: the last one is taken, as many as there are is not.
 func TestNumbersOfNodesOfACut(t *testing.T) {
-	for count := int64(2); count <= 30; count++ {
-		s := sharedOf(manyNodes(int(count)), 4, 6)
-		for at := int64(9); at <= 13; at++ {
-			right := impl.Hand{At: at, Call: cut20, Cur: 1, Side: 1, Seen: -1}
-			for _, l := range handNodes() {
-				last := right
-				*l.field(&last) = count - 1
-				cuts.done(t, s, 1, last)
-				for _, number := range []int64{count, count + 1, 29, 30, 31, -1, math.MinInt64, math.MaxInt64, 1<<32 + 1} {
-					h := right
-					if *l.field(&h) = number; number < 0 || number >= count {
-						cuts.refuses(t, l.name, s, 1, h)
-					}
-				}
-			}
-		}
-	}
+	cuts.checkLastNodes(t, 2, impl.Hand{Call: cut20, Cur: 1, Side: 1, Seen: -1})
 }
 
 // cutting steps behind AtLock till the hand has to let go, or another one has to move up; it checks that each step is done at once and tells the places that it came to. behind is done behind each.
@@ -541,14 +523,17 @@ func TestWhoCutsWhatHasOneSideFreeHasItOutOfTheTreeThen(t *testing.T) {
 	}
 }
 
-// Of any tree nothing is left at last: there is always a key with one side free.
-func TestCuttingTillNothingIsLeft(t *testing.T) {
-	chance := rand.New(rand.NewSource(90))
-	for _, nodes := range append(taggedTrees(), taggedTrees()...) {
+// An aloneFunc is a cut of one who is alone; it answers the nodes behind it.
+type aloneFunc func(t *testing.T, nodes []impl.Node, key, task int64) []impl.Node
+
+// cutTillNothingIsLeft cuts keys of the trees by chance till none is left, and checks that each one goes just if it can.
+func cutTillNothingIsLeft(t *testing.T, chance *rand.Rand, trees [][]impl.Node, cut aloneFunc, can func(nodes []impl.Node, at int64) bool) {
+	t.Helper()
+	for _, nodes := range trees {
 		for pairs := impl.PairsIn(nodes); len(pairs) > 0; pairs = impl.PairsIn(nodes) {
 			key := pairs[chance.Intn(len(pairs))].Key
-			after := checkCutAlone(t, nodes, key, chance.Int63n(3))
-			if one := !hasBoth(nodes[impl.FoundIn(nodes, key)]); one != (len(impl.PairsIn(after)) == len(pairs)-1) {
+			after := cut(t, nodes, key, chance.Int63n(3))
+			if one := can(nodes, impl.FoundIn(nodes, key)); one != (len(impl.PairsIn(after)) == len(pairs)-1) {
 				t.Fatalf("%d of %v: %v left", key, pairs, impl.PairsIn(after))
 			}
 			nodes = after
@@ -559,9 +544,9 @@ func TestCuttingTillNothingIsLeft(t *testing.T) {
 	}
 }
 
-// What is cut can be added again, as long as there is room: what is Gone takes its room for ever.
-func TestAddingAndCuttingByTurns(t *testing.T) {
-	chance := rand.New(rand.NewSource(91))
+// addAndCutByTurns adds and cuts few keys till there is no room any more: what is Gone takes its room for ever.
+func addAndCutByTurns(t *testing.T, chance *rand.Rand, cut aloneFunc) {
+	t.Helper()
 	for range 60 {
 		nodes := impl.Roots()
 		for range 200 {
@@ -569,13 +554,24 @@ func TestAddingAndCuttingByTurns(t *testing.T) {
 			if chance.Intn(2) == 0 {
 				nodes = checkAddedAlone(t, nodes, impl.Call{Code: 2, Key: key, Value: chance.Int63n(1000)}, task).Nodes
 			} else {
-				nodes = checkCutAlone(t, nodes, key, task)
+				nodes = cut(t, nodes, key, task)
 			}
 		}
 		if len(nodes) != 30 {
 			t.Errorf("only %d nodes", len(nodes))
 		}
 	}
+}
+
+// Of any tree nothing is left at last: there is always a key with one side free.
+func TestCuttingTillNothingIsLeft(t *testing.T) {
+	trees := append(taggedTrees(), taggedTrees()...)
+	cutTillNothingIsLeft(t, rand.New(rand.NewSource(90)), trees, checkCutAlone, func(nodes []impl.Node, at int64) bool { return !hasBoth(nodes[at]) })
+}
+
+// What is cut can be added again, as long as there is room.
+func TestAddingAndCuttingByTurns(t *testing.T) {
+	addAndCutByTurns(t, rand.New(rand.NewSource(91)), checkCutAlone)
 }
 
 // The least and the greatest key that there may be.
@@ -707,134 +703,19 @@ func TestReadersWhileOneCuts(t *testing.T) {
 	}
 }
 
-// A crew is all who get, add and cut at once, and what is in the tree by what they did; ever tells of each worker whether the key of its call was there, or not, at some time since it was called.
-type crew struct {
-	workers      []worker
-	in           map[int64]int64
-	ever         [][2]bool
-	cuts, agains int
-}
-
-// did keeps what one turn did to the tree: a key comes in as it is hung, and goes as it is lifted out.
-func (c *crew) did(t *testing.T, before impl.Hand) {
-	t.Helper()
-	_, there := c.in[before.Call.Key]
-	switch before.At {
-	case 8:
-		if there {
-			t.Errorf("%+v is hung, and was there", before.Call)
-		}
-		c.in[before.Call.Key] = before.Call.Value
-	case 12:
-		if !there {
-			t.Errorf("%+v is lifted out, and was not there", before.Call)
-		}
-		delete(c.in, before.Call.Key)
-		c.cuts++
-	}
-}
-
-// look keeps what each worker could have seen.
-func (c *crew) look(task int, before impl.Hand) {
-	if before.At == 1 {
-		c.ever[task] = [2]bool{}
-	}
-	for i, w := range c.workers {
-		_, there := c.in[w.hand.Call.Key]
-		c.ever[i][0] = c.ever[i][0] || !there
-		c.ever[i][1] = c.ever[i][1] || there
-	}
-}
-
-// told checks what a worker rested with: a yes or a no that was true at no time is wrong.
-func (c *crew) told(t *testing.T, task int, call impl.Call, reply int64) {
-	t.Helper()
-	if reply != 1 && reply != 2 {
-		return
-	}
-	wasThere := (reply == 1) == (call.Code == 1)
-	if call.Code == 3 {
-		wasThere = reply == 1
-	}
-	if there := c.ever[task]; wasThere && !there[1] || !wasThere && !there[0] {
-		t.Errorf("%+v is told %d, which was true at no time", call, reply)
-	}
-}
-
-// inTheTree checks that all and only what came in and did not go is there. What is marked and not lifted out yet is still come to.
-func (c *crew) inTheTree(t *testing.T, s impl.Shared) {
-	t.Helper()
-	nodes := slices.Clone(s.Nodes)
-	for _, w := range c.workers {
-		if w.hand.At == 12 {
-			nodes[w.hand.Cur].Gone = false
-		}
-	}
-	pairs := impl.PairsIn(nodes)
-	if !impl.TreeOk(nodes) || len(pairs) != len(c.in) {
-		t.Fatalf("%v in %+v", c.in, nodes)
-	}
-	for _, p := range pairs {
-		if value, there := c.in[p.Key]; !there || value != p.Value {
-			t.Errorf("%+v is in the tree, and came in with %d, %v", p, value, there)
-		}
-	}
-}
-
-func (c *crew) work(t *testing.T, chance *rand.Rand) {
-	t.Helper()
-	s := sharedOf(impl.Roots(), 0, 0, 0, 0, 0, 0)
-	for turns := 0; slices.ContainsFunc(c.workers, worker.hasWork); turns++ {
-		if turns > 20000 {
-			t.Fatalf("no end: %+v", c.workers)
-		}
-		task := chance.Intn(len(c.workers))
-		w := &c.workers[task]
-		if !w.hasWork() {
-			continue
-		}
-		after, before, reply := w.turn(t, s, int64(task))
-		s = after
-		c.did(t, before)
-		c.look(task, before)
-		c.told(t, task, before.Call, reply)
-		c.inTheTree(t, s)
-		if before.At == 10 && w.hand.Again {
-			c.agains++
-		}
-	}
-	if !impl.TreeOk(s.Nodes) || len(impl.Walking(s.Counts)) != 0 {
-		t.Errorf("behind it all: %+v", s)
-	}
-	for _, n := range s.Nodes {
-		if n.Owner != 0 {
-			t.Errorf("%+v is held", n)
-		}
-	}
-}
-
 // By turns of whoever comes, each key is in the tree just from where it is hung till it is lifted out, and nobody is told what was true at no time.
 func TestManyCutAtOnce(t *testing.T) {
 	chance := rand.New(rand.NewSource(92))
-	done, agains := 0, 0
+	cuts, agains := 0, 0
 	for _, keys := range []int64{1, 2, 3, 5, 9, 20} {
 		for range 60 {
-			c := crew{workers: make([]worker, 6), in: map[int64]int64{}, ever: make([][2]bool, 6)}
-			for i := range c.workers {
-				for range 10 {
-					call := impl.Call{Code: 1 + chance.Int63n(3), Key: chance.Int63n(keys) * 37 % 100}
-					if call.Code == 2 {
-						call.Value = chance.Int63n(1000)
-					}
-					c.workers[i].calls = append(c.workers[i].calls, call)
-				}
-			}
+			c := newCrew(impl.Roots(), 10, func() impl.Call { return chanceCall(chance, keys, 1+chance.Int63n(3)) })
 			c.work(t, chance)
-			done, agains = done+c.cuts, agains+c.agains
+			cuts, agains = cuts+c.cuts-c.moves, agains+c.agains[10]
 		}
 	}
-	if done < 1000 || agains < 500 {
-		t.Errorf("only %d are cut and %d checks failed: too few in each other's way", done, agains)
+	if cuts < 1000 || agains < 500 {
+		t.Errorf("only %d are cut and %d checks failed: too few in each other's way", cuts, agains)
 	}
 }
 

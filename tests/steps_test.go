@@ -98,68 +98,6 @@ func atLock(t *testing.T, s impl.Shared, task int64, c impl.Call) (impl.Shared, 
 	return s, h
 }
 
-// letGo stands for what is done at AtFree, which is not built yet.
-func letGo(t *testing.T, s impl.Shared, task int64) impl.Shared {
-	t.Helper()
-	for _, at := range impl.HeldBy(s.Nodes, task) {
-		nodes, is := impl.Unlocked(s.Nodes, at, task)
-		if !is {
-			t.Fatalf("%d: not let go", at)
-		}
-		s.Nodes = nodes
-	}
-	return s
-}
-
-// A worker is one of those who are at work at once, with what is still to be asked.
-type worker struct {
-	hand  impl.Hand
-	calls []impl.Call
-}
-
-func (w worker) hasWork() bool { return w.hand.At != 0 || len(w.calls) > 0 }
-
-// turn is one step of a worker, with what stands for AtFree; it tells the hand ahead of it, and what it rested with, if it came to rest, or 0.
-func (w *worker) turn(t *testing.T, s impl.Shared, task int64) (impl.Shared, impl.Hand, int64) {
-	t.Helper()
-	if w.hand.At == 0 {
-		w.hand, w.calls = called(t, w.calls[0]), w.calls[1:]
-	}
-	before := w.hand
-	switch {
-	case before.At == 26 && before.Again:
-		s, w.hand = letGo(t, s, task), called(t, before.Call)
-	case before.At == 26:
-		s, w.hand = letGo(t, s, task), impl.Resting(before.Reply, 0)
-	case before.At == 14:
-		// How the next greater one moves up is not built yet: such a cut is given up.
-		s, w.hand = letGo(t, s, task), impl.Resting(0, 0)
-	default:
-		s, w.hand = doneOrWaited(t, s, task, before)
-	}
-	if w.hand.At == 0 {
-		return s, before, w.hand.Reply
-	}
-	return s, before, 0
-}
-
-// doneOrWaited is a step of whatever chapter has the place, which must not be refused. Where it waits, all stays as it is.
-func doneOrWaited(t *testing.T, s impl.Shared, task int64, h impl.Hand) (impl.Shared, impl.Hand) {
-	t.Helper()
-	step := impl.CutStep
-	switch {
-	case h.At <= 4:
-		step = impl.FindStep
-	case h.At <= 8:
-		step = impl.AddStep
-	}
-	after, hand, is := step(s, task, h)
-	if !is && hand != h {
-		t.Fatalf("task %d, %+v: refused", task, h)
-	}
-	return after, hand
-}
-
 // stepIsRight asks, by the document's words, what every step wants of what it is given, but for the place and the call.
 func stepIsRight(s impl.Shared, task int64, h impl.Hand) bool {
 	if !impl.NodesOk(s.Nodes) || !impl.CountsOk(s.Counts) || !handByWords(h) || task < 0 || task >= int64(len(s.Counts)) {
@@ -221,11 +159,19 @@ func (c stepChapter) asWords(t *testing.T, name string, s impl.Shared, task int6
 	c.check(t, name, s, task, h, want, hand, is)
 }
 
-// A lock is a place where one node of the hand is Locked. first is the first node that may be it; behind tells of each code that is taken there where the hand is then.
+// A lock is a place where one node of the hand is Locked. first is the first node that may be it; least is a hand with just what the place asks for beside it; behind tells of each code that is taken there where the hand is then.
 type lock struct {
 	at, first int64
 	node      func(h *impl.Hand) *int64
+	least     impl.Hand
 	behind    map[int64]int64
+}
+
+// low is the least hand of that code that is AtLock.
+func (l lock) low(code int64) impl.Hand {
+	h := l.least
+	h.At, h.Call, h.Seen = l.at, map[int64]impl.Call{2: add20, 3: cut20}[code], -1
+	return h
 }
 
 func (c stepChapter) checkLock(t *testing.T, l lock) {
@@ -267,11 +213,11 @@ func (c stepChapter) waitsForAnOwner(t *testing.T, l lock) {
 		for owner := int64(1); owner <= 6; owner++ {
 			s := sharedOf(withOwner(held(), node, owner), 2, 3, 4, 5)
 			for code := range l.behind {
-				call := map[int64]impl.Call{2: add20, 3: cut20}[code]
+				low := l.low(code)
+				high := impl.Hand{At: l.at, Call: low.Call, Cur: 1, Side: 1, Tag: 13, Up: 2, Next: 3, New: 4, Index: 6, Seen: 17, Again: true, Begin: 18, Reply: 2, Out: 19}
 				for prev := range int64(7) {
-					low := impl.Hand{At: l.at, Call: call, Prev: prev, Seen: -1}
-					high := impl.Hand{At: l.at, Call: call, Prev: prev, Cur: 1, Side: 1, Tag: 13, Up: 2, Next: 3, New: 4, Index: 6, Seen: 17, Again: true, Begin: 18, Reply: 2, Out: 19}
 					for _, h := range []impl.Hand{low, high} {
+						h.Prev = prev
 						*l.node(&h) = node
 						for task := range int64(4) {
 							c.waits(t, "held", s, task, h)
@@ -285,7 +231,8 @@ func (c stepChapter) waitsForAnOwner(t *testing.T, l lock) {
 
 func (c stepChapter) locksWhatIsLetGo(t *testing.T, l lock) {
 	for code, place := range l.behind {
-		h := impl.Hand{At: l.at, Call: map[int64]impl.Call{2: add20, 3: cut20}[code], Prev: 1, Side: 1, Seen: -1}
+		h := l.low(code)
+		h.Prev, h.Side = 1, 1
 		*l.node(&h) = 2
 		s, _ := c.done(t, sharedOf(fiveKeys(), 0, 0, 0), 0, h)
 		for range 3 {
@@ -463,6 +410,27 @@ func (c stepChapter) checkNumbersOfNodes(t *testing.T) {
 						continue
 					}
 					c.asWords(t, l.name, s, 1, h)
+				}
+			}
+		}
+	}
+}
+
+// checkLastNodes checks, at each place and with so many nodes or more, each number of a node by itself in a hand that is taken: the last one is taken, too, as many as there are is not.
+func (c stepChapter) checkLastNodes(t *testing.T, least int, right impl.Hand) {
+	t.Helper()
+	for count := least; count <= 30; count++ {
+		s, nodes := sharedOf(manyNodes(count), 4, 6), int64(count)
+		for _, right.At = range c.places {
+			for _, l := range handNodes() {
+				last := right
+				*l.field(&last) = nodes - 1
+				c.done(t, s, 1, last)
+				for _, number := range []int64{nodes, nodes + 1, 29, 30, 31, -1, math.MinInt64, math.MaxInt64, 1<<32 + 1} {
+					h := right
+					if *l.field(&h) = number; number < 0 || number >= nodes {
+						c.refuses(t, l.name, s, 1, h)
+					}
 				}
 			}
 		}
